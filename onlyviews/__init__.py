@@ -1,0 +1,1 @@
+"""Onlyviews: views that follow changes without their tables."""
