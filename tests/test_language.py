@@ -160,6 +160,24 @@ class LanguageTest(unittest.TestCase):
         for place, node in self.nodes(ast.Attribute):
             self.assertTrue(node.attr in SPECIAL or re.fullmatch(r"_?[A-Za-z][A-Za-z0-9_]*", node.attr), place)
 
+    def test_names_of_classes_and_imports(self):
+        for name, tree in self.trees.items():
+            taken = {alias.name for node in tree.body if isinstance(node, ast.ImportFrom) for alias in node.names}
+            taken |= {node.name for node in tree.body if isinstance(node, ast.ClassDef)}
+            for outer in tree.body:
+                for node in ast.walk(outer):
+                    if isinstance(node, ast.Name) and not isinstance(node.ctx, ast.Load):
+                        self.assertNotIn(node.id, taken, f"{name}:{node.lineno}")
+                    elif isinstance(node, ast.arg):
+                        self.assertNotIn(node.arg, taken, f"{name}:{node.lineno}")
+
+    def test_methods_and_attributes(self):
+        attributes = {node.attr for place, node in self.nodes(ast.Attribute) if isinstance(node.ctx, ast.Store)}
+        for place, node in self.nodes(ast.ClassDef):
+            methods = [part.name for part in node.body if isinstance(part, ast.FunctionDef)]
+            self.assertEqual(len(methods), len(set(methods)), place)
+            self.assertEqual(attributes & set(methods), set(), place)
+
     def test_methods_of_builtin_values(self):
         barred = builtin_methods() - METHODS
         for place, node in self.nodes(ast.Attribute):
