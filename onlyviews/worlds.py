@@ -1,9 +1,10 @@
 """Two unknown bases, the worlds, that allow a batch and in which kept views have equal contents.
 
-Rows are told by the batch, or led to by told rows, or they stand below another row: then no other row refers to them.
-For any two such bases there are ones of this form: a row to which several references lead may be put there once for
-each of them, if the batch does not name it, and a row to which a reference leads in one of the bases alone may be the
-same in both. Only the row behind the batch needs references to told rows, as the batch changes these.
+Their rows are the told ones, which the batch names, those to which told rows lead, perhaps one more root row of the
+wanted view, and rows below these, to which nothing else refers. If any two such bases differ for the wanted view behind
+the batch, then two of this form do: a row to which several others lead may be there once for each of them, if the
+batch does not name it, and one to which a reference leads in one base alone may be the same in both. A row that the
+batch changes is led to by others only where the wanted view follows them, and elsewhere by a copy of it as it was.
 """
 
 from itertools import combinations
