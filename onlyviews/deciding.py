@@ -19,14 +19,20 @@ def doubt(views, changes, index):
 
 def is_doubt(views, changes, index, value):
     """Return True if a value, which may be any, is evidence that a batch cannot be followed."""
-    if not is_pair_of_bases(views[index].schema, value):
+    return is_told_apart(views, changes, views[index], value)
+
+
+def is_told_apart(views, changes, wanted, value):
+    """Return True if a value, which may be any, is a tuple of two bases that are alike for kept views and allow a
+    batch, with different contents of the wanted view behind it."""
+    if not is_pair_of_bases(wanted.schema, value):
         return False
     first, second = value
     if not first.is_allowed(changes) or not second.is_allowed(changes):
         return False
     if difference(views, first, second) is not None:
         return False
-    return contents_behind(views[index], first, changes) != contents_behind(views[index], second, changes)
+    return contents_behind(wanted, first, changes) != contents_behind(wanted, second, changes)
 
 
 def is_pair_of_bases(schema, value):

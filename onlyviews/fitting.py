@@ -31,6 +31,16 @@ def new_contents(views, kept, changes, known):
     return found
 
 
+def asked_contents(views, kept, changes, wanted):
+    """Return the contents of a wanted view behind a batch, which views answer by their contents ahead of it."""
+    facts = Facts(views, kept, Batch(wanted.schema, changes), [])
+    number = len(views)
+    plans = [facts.keys_behind(wanted, root) for root in facts.roots(wanted)]
+    asked = [(number, keys) for keys in plans if keys is not None]
+    fitting = Fitting(list(views) + [wanted], kept, facts, asked)
+    return {keys[0][1]: fitting.made_row(number, keys) for number, keys in asked if fitting.has_row(number, keys)}
+
+
 def plan(facts, view):
     """Return a dict from the ids of the roots of which a view may tell other things behind a batch to the keys of the
     rows at all nodes there, or None if it has no row for them."""
@@ -51,7 +61,8 @@ class Fitting:
     """Rows that fit contents of views, as far as they are asked for behind a batch."""
 
     def __init__(self, views, kept, facts, asked):
-        """Take views, their contents, facts of these, and pairs of a view's number and the keys at its nodes."""
+        """Take views, the contents of all or of the first ones, facts of these, and pairs of a view's number and the
+        keys at its nodes."""
         self._views = views
         self._facts = facts
         self._schema = facts.batch.schema
@@ -136,7 +147,7 @@ class Fitting:
     def _demand(self, kept):
         """Demand that views have rows for spots exactly where they have."""
         for key, spot in self._named.items():
-            for number, view in enumerate(self._views):
-                if view.nodes[0][2] == key[0]:
+            for number, rows in enumerate(kept):
+                if self._views[number].nodes[0][2] == key[0]:
                     holds = self._cases.holds(0, spot, number, 0, 0)
-                    self._formula.demand([holds if key[1] in kept[number] else holds ^ 1])
+                    self._formula.demand([holds if key[1] in rows else holds ^ 1])

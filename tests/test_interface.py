@@ -6,13 +6,17 @@ import unittest
 
 from makers import BIG, PLACES, REGIONS, SHOPS
 from onlyviews.alike import difference, ends, used
+from onlyviews.answering import answered, can_answer, gap, is_gap
 from onlyviews.askers import Asker
 from onlyviews.asking import (answer, can_follow_with, candidates, doubt_with, fewest, followed_with, is_doubt_with)
 from onlyviews.bases import Base, net
+from onlyviews.console import Console
 from onlyviews.deciding import can_follow, doubt, is_doubt
 from onlyviews.following import Keeper, followed
 from onlyviews.kinds import hindrance, is_self_keeping, kinds, least_helpers
+from onlyviews.rules import is_rule, parse_rule, rule_text, run_rule, told_contents
 from onlyviews.schemas import Schema, is_row
+from onlyviews.sets import cheapest, core, superfluous, tells
 from onlyviews.views import View, chain, contents
 
 FUNCTIONS = {
@@ -29,6 +33,11 @@ FUNCTIONS = {
                "can_follow_with(views, changes, index, questions)", "doubt_with(views, changes, index, questions)",
                "is_doubt_with(views, changes, index, questions, value)", "fewest(views, changes, index)",
                "followed_with(views, contents, changes, answers)"],
+    "answering": ["can_answer(views, view, changes=())", "gap(views, view, changes=())",
+                  "is_gap(views, view, value, changes=())", "answered(views, contents, view, changes=())"],
+    "sets": ["tells(first, second)", "superfluous(views)", "core(views)", "cheapest(candidates, costs, wanted)"],
+    "rules": ["rule_text(rule)", "parse_rule(text)", "is_rule(views, changes, view, value)",
+              "run_rule(views, contents, rule, key)", "told_contents(views, contents, changes, view, rule)"],
 }
 CLASSES = {
     "schemas": {"Schema": ["parse(text)", "columns(self, table)", "__str__(self)", "__eq__(self, other)"]},
@@ -39,6 +48,7 @@ CLASSES = {
                              "contents(self, index)", "fork(self)"]},
     "askers": {"Asker": ["__init__(self, views, base)", "tell(self, changes)", "contents(self, index)", "base(self)",
                          "fork(self)"]},
+    "console": {"Console": ["__init__(self)", "answer(self, row)"]},
 }
 FILES = sorted({*FUNCTIONS, *CLASSES})
 
@@ -71,6 +81,7 @@ class InterfaceTest(unittest.TestCase):
         views, told = [BIG, REGIONS], [contents(BIG, base), contents(REGIONS, base)]
         question = ("below", "region", 3)
         pair = doubt([BIG], changes, 0)
+        rule = ("in", 0, "t", ("row", ("t", "t/0.1"), ("t/0=0",)), ("none",))
         for function, given in [
                 (is_row, {"schema": SHOPS, "table": "shop", "value": (5, 1, 3)}), (Schema.parse, {"text": "table a"}),
                 (SHOPS.columns, {"table": "shop"}), (Base, {"schema": SHOPS, "rows": [("region", (3, 12))]}),
@@ -92,11 +103,36 @@ class InterfaceTest(unittest.TestCase):
                 (is_doubt_with, {"views": [BIG], "changes": changes, "index": 0, "questions": [question], "value": pair}),
                 (fewest, {"views": [BIG], "changes": changes, "index": 0}),
                 (followed_with, {"views": [BIG], "contents": told[:1], "changes": changes,
-                                 "answers": [(question, answer(base, question))]})]:
+                                 "answers": [(question, answer(base, question))]}),
+                (can_answer, {"views": views, "view": PLACES, "changes": changes}),
+                (gap, {"views": views, "view": PLACES, "changes": changes}),
+                (is_gap, {"views": [PLACES], "view": REGIONS, "value": gap([PLACES], REGIONS), "changes": changes}),
+                (answered, {"views": views, "contents": told, "view": BIG, "changes": changes}),
+                (tells, {"first": views, "second": [BIG]}), (superfluous, {"views": views + [BIG]}),
+                (core, {"views": views + [BIG]}), (cheapest, {"candidates": views, "costs": [1, 2], "wanted": [BIG]}),
+                (rule_text, {"rule": rule}), (parse_rule, {"text": rule_text(rule)}),
+                (is_rule, {"views": views, "changes": changes, "view": BIG, "value": rule}),
+                (run_rule, {"views": views, "contents": told, "rule": rule, "key": 5}),
+                (told_contents, {"views": views, "contents": told, "changes": changes, "view": BIG, "rule": rule})]:
             self.assertEqual(function(*given.values()), function(**given), function.__name__)
             before = repr(list(given.values())[-1])
             function(**dict(reversed(list(given.items()))))
             self.assertEqual(repr(list(given.values())[-1]), before, function.__name__)
+
+    def test_defaults(self):
+        self.assertEqual([can_answer([BIG], BIG), gap([BIG], BIG), answered([BIG], [{}], BIG)], [True, None, {}])
+        pair = (Base(SHOPS, [("region", (3, 12))]), Base(SHOPS))
+        self.assertEqual([is_gap([BIG], REGIONS, pair), is_gap([BIG], REGIONS, pair, []), is_gap([REGIONS], BIG, pair)],
+                         [True, True, False])
+
+    def test_what_was_handed_in_may_be_changed(self):
+        views, changes = [BIG, REGIONS], [("insert", "shop", (6, 1, 3))]
+        kept = [{}, {3: ((3,), (12,))}]
+        told = answered(views, kept, BIG, changes)
+        kept.clear()
+        views.clear()
+        changes.clear()
+        self.assertEqual(told, {6: ((6, 3), (12,))})
 
     def test_methods_by_name(self):
         base = Base(schema=SHOPS, rows=[("region", (3, 12))])
@@ -104,6 +140,7 @@ class InterfaceTest(unittest.TestCase):
         keeper = Keeper(views=[BIG], base=base)
         self.assertIs(keeper.tell(changes=[("delete", "shop", (5, 1, 3))]), True)
         self.assertEqual(keeper.contents(index=0), {})
+        self.assertEqual(Console().answer(row="schema\ntable a"), "ok")
         asker = Asker(views=[BIG], base=base)
         self.assertEqual(asker.tell(changes=[("delete", "shop", (5, 1, 3))]), [])
         self.assertEqual(asker.contents(index=0), {})
