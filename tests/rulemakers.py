@@ -2,6 +2,7 @@
 
 from makers import SCHEMAS, any_base, any_batch, any_view
 from onlyviews.rules import is_rule
+from oracle import is_sound, made, shown_by, tables_of
 
 QUESTIONS = {"is": 4, "in": 5, "same": 5, "below": 5}
 
@@ -157,3 +158,51 @@ def spoilt_row(chance, leaf, trees):
     else:
         ids[chance.randrange(len(ids))] = chance.choice(names)
     return ("row", tuple(ids), tuple(values))
+
+
+def leaf_for(kept, rule, key):
+    """Return the leaf of a rule for an id and its names as integers, by a walk of its own."""
+    def row(name):
+        first, *steps = name.split("/")
+        found = key if first == "t" else int(first.split(":")[1])
+        for step in steps:
+            number, node = map(int, step.split("."))
+            found = kept[number][found][0][node]
+        return found
+
+    def value(name):
+        number, at = map(int, name.rsplit("/", 1)[1].split("="))
+        return kept[number][row(name.rsplit("/", 1)[0])][1][at]
+
+    while rule[0] in QUESTIONS:
+        word, first, second = rule[:3]
+        yes = {"is": lambda: key == first, "in": lambda: row(second) in kept[first], "same": lambda: row(first) == second,
+               "below": lambda: value(first) < second}[word]()
+        rule = rule[-2] if yes else rule[-1]
+    if rule[0] != "row":
+        return rule
+    return "row", tuple(map(row, rule[1])), tuple(part if isinstance(part, int) else value(part) for part in rule[2])
+
+
+def walked(kept, rule, key):
+    """Return what a rule tells for an id, by a walk of its own."""
+    leaf = leaf_for(kept, rule, key)
+    return leaf[1:] if leaf[0] == "row" else None
+
+
+def is_wrong_at(views, changes, view, rule, tables, key):
+    """Return whether a rule does not tell the row of a view behind a batch that tables allow, or comes to never."""
+    later = made(view.schema, tables, changes)
+    leaf = leaf_for([shown_by(kept, tables) for kept in views], rule, key)
+    told = leaf[1:] if leaf[0] == "row" else None
+    return leaf[0] == "never" or told != shown_by(view, later).get(key)
+
+
+def shows_wrong(views, changes, view, rule, spot):
+    """Return whether a value is a tuple of a base and an id for which a rule is wrong."""
+    if type(spot) is not tuple or len(spot) != 2 or type(spot[1]) is not int or not 0 <= spot[1] <= 10 ** 6:
+        return False
+    tables = tables_of(spot[0])
+    if not is_sound(view.schema, tables) or isinstance(made(view.schema, tables, changes), int):
+        return False
+    return is_wrong_at(views, changes, view, rule, tables, spot[1])

@@ -13,7 +13,11 @@ from onlyviews.bases import Base, net
 from onlyviews.console import Console
 from onlyviews.deciding import can_follow, doubt, is_doubt
 from onlyviews.following import Keeper, followed
+from onlyviews.holders import Holder
+from onlyviews.judging import is_right, wrong_spot
 from onlyviews.kinds import hindrance, is_self_keeping, kinds, least_helpers
+from onlyviews.making import make_rule
+from onlyviews.reasons import are_reasons, reasons
 from onlyviews.rules import is_rule, parse_rule, rule_text, run_rule, told_contents
 from onlyviews.schemas import Schema, is_row
 from onlyviews.sets import cheapest, core, superfluous, tells
@@ -38,6 +42,9 @@ FUNCTIONS = {
     "sets": ["tells(first, second)", "superfluous(views)", "core(views)", "cheapest(candidates, costs, wanted)"],
     "rules": ["rule_text(rule)", "parse_rule(text)", "is_rule(views, changes, view, value)",
               "run_rule(views, contents, rule, key)", "told_contents(views, contents, changes, view, rule)"],
+    "judging": ["is_right(views, changes, view, rule)", "wrong_spot(views, changes, view, rule)"],
+    "making": ["make_rule(views, changes, view)"],
+    "reasons": ["reasons(views, changes, view, rule)", "are_reasons(views, changes, view, rule, value)"],
 }
 CLASSES = {
     "schemas": {"Schema": ["parse(text)", "columns(self, table)", "__str__(self)", "__eq__(self, other)"]},
@@ -49,6 +56,9 @@ CLASSES = {
     "askers": {"Asker": ["__init__(self, views, base)", "tell(self, changes)", "contents(self, index)", "base(self)",
                          "fork(self)"]},
     "console": {"Console": ["__init__(self)", "answer(self, row)"]},
+    "holders": {"Holder": ["__init__(self, views, base=None)", "contents(self, index)", "history(self)", "__len__(self)",
+                           "offer(self, changes, view, rule, reasons)", "take(self, changes)",
+                           "ask(self, view, changes=())", "forget(self, view, changes=())", "back(self, many)", "fork(self)"]},
 }
 FILES = sorted({*FUNCTIONS, *CLASSES})
 
@@ -113,7 +123,13 @@ class InterfaceTest(unittest.TestCase):
                 (rule_text, {"rule": rule}), (parse_rule, {"text": rule_text(rule)}),
                 (is_rule, {"views": views, "changes": changes, "view": BIG, "value": rule}),
                 (run_rule, {"views": views, "contents": told, "rule": rule, "key": 5}),
-                (told_contents, {"views": views, "contents": told, "changes": changes, "view": BIG, "rule": rule})]:
+                (told_contents, {"views": views, "contents": told, "changes": changes, "view": BIG, "rule": rule}),
+                (is_right, {"views": views, "changes": [], "view": BIG, "rule": rule}),
+                (wrong_spot, {"views": views, "changes": changes, "view": BIG, "rule": rule}),
+                (make_rule, {"views": views, "changes": changes, "view": BIG}),
+                (reasons, {"views": views, "changes": [], "view": BIG, "rule": rule}),
+                (are_reasons, {"views": views, "changes": [], "view": BIG, "rule": rule,
+                               "value": reasons(views, [], BIG, rule)})]:
             self.assertEqual(function(*given.values()), function(**given), function.__name__)
             before = repr(list(given.values())[-1])
             function(**dict(reversed(list(given.items()))))
@@ -141,6 +157,14 @@ class InterfaceTest(unittest.TestCase):
         self.assertIs(keeper.tell(changes=[("delete", "shop", (5, 1, 3))]), True)
         self.assertEqual(keeper.contents(index=0), {})
         self.assertEqual(Console().answer(row="schema\ntable a"), "ok")
+        holder = Holder(base=base, views=[PLACES])
+        rule = make_rule(view=PLACES, changes=[], views=[PLACES])
+        shown = reasons(rule=rule, view=PLACES, changes=[], views=[PLACES])
+        self.assertIsNone(holder.offer(reasons=shown, rule=rule, view=PLACES, changes=[]))
+        self.assertIsNone(holder.take(changes=[]))
+        self.assertEqual(holder.ask(changes=[], view=PLACES), holder.contents(index=0))
+        self.assertIsNone(holder.back(many=1))
+        self.assertIsNone(holder.forget(changes=[], view=PLACES))
         asker = Asker(views=[BIG], base=base)
         self.assertEqual(asker.tell(changes=[("delete", "shop", (5, 1, 3))]), [])
         self.assertEqual(asker.contents(index=0), {})

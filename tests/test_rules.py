@@ -10,7 +10,7 @@ from onlyviews.errors import InvalidText
 from onlyviews.rules import is_rule, parse_rule, rule_text, run_rule, told_contents
 from onlyviews.schemas import Schema
 from onlyviews.views import View, contents
-from rulemakers import QUESTIONS, Names, any_rule_case, any_tree, spoilt, told_names, trees_of
+from rulemakers import QUESTIONS, Names, any_rule_case, any_tree, spoilt, told_names, trees_of, walked
 from samples import ANY_VALUES, nested
 
 SMALL = View.parse(SHOPS, "view shop\n  follow place\n    range size - 10")
@@ -355,30 +355,6 @@ def stands(tree, names):
         return True
     return all(name in names.rows for name in tree[1]) and all(
         isinstance(part, int) or part in names.values for part in tree[2])
-
-
-def walked(kept, rule, key):
-    """Return what a rule tells for an id, by a walk of its own."""
-    def row(name):
-        first, *steps = name.split("/")
-        found = key if first == "t" else int(first.split(":")[1])
-        for step in steps:
-            number, node = map(int, step.split("."))
-            found = kept[number][found][0][node]
-        return found
-
-    def value(name):
-        number, at = map(int, name.rsplit("/", 1)[1].split("="))
-        return kept[number][row(name.rsplit("/", 1)[0])][1][at]
-
-    while rule[0] in QUESTIONS:
-        word, first, second = rule[:3]
-        yes = {"is": lambda: key == first, "in": lambda: row(second) in kept[first], "same": lambda: row(first) == second,
-               "below": lambda: value(first) < second}[word]()
-        rule = rule[-2] if yes else rule[-1]
-    if rule[0] != "row":
-        return None
-    return tuple(map(row, rule[1])), tuple(part if isinstance(part, int) else value(part) for part in rule[2])
 
 
 class RunTest(unittest.TestCase):

@@ -1,0 +1,138 @@
+"""Bases with an id, by which questions and leaves of a rule are chosen, and what may be asked there."""
+
+from onlyviews.deciding import contents_behind
+from onlyviews.ground import AHEAD, beyond
+from onlyviews.models import Model
+from onlyviews.rulenames import ROOT, node_name, read_told_name, value_name
+from onlyviews.rules import find_id, find_value, is_yes
+from onlyviews.spots import cuts_of
+from onlyviews.views import contents
+
+
+class Sample:
+    """What kept views show in a base, and the row that the view has for an id behind the batch, or None."""
+
+    def __init__(self, ground, changes, situation):
+        model = Model(situation)
+        base = model.base()
+        self.key = model.root_id()
+        self.kept = [contents(view, base) for view in ground.views]
+        self.row = contents_behind(ground.view, base, changes).get(self.key)
+
+    def answer(self, question):
+        """Return whether the answer to a question of a rule is yes."""
+        return is_yes(self.kept, question, self.key)
+
+
+class Reach:
+    """The names that may stand behind some answers, or behind questions that all of some samples answer with yes.
+
+    names has tuples (name, place, needs) with one name for each place, shown tuples (name, place, column, needs); needs
+    are the questions that must be asked ahead.
+    """
+
+    def __init__(self, ground, asked, samples):
+        self._ground = ground
+        self._asked = asked
+        self._samples = samples
+        self.names = []
+        self.shown = []
+        self._known = {}
+        # What is asked already comes first, so that places have names without needs where there are some.
+        for name in [ROOT] + list(ground.told_keys):
+            self._add_row(name, (name, (), AHEAD), ())
+        self._open_all(True)
+        self._open_all(False)
+
+    def _is_open(self, question, is_asked):
+        """Return True if the answer to a question in was yes, or, unless it must be asked, if all samples say so."""
+        key = question_key(self._ground, question)
+        if is_asked or key in self._asked:
+            return self._asked.get(key, False)
+        return all([sample.answer(question) for sample in self._samples])
+
+    def _open_all(self, is_asked):
+        """Add what views show for all rows, also for those that are added."""
+        at = 0
+        while at < len(self.names):
+            name, place, needs = self.names[at]
+            for number in self._views_of(place):
+                if self._is_open(("in", number, name), is_asked):
+                    self._open(number, name, place, needs)
+            at += 1
+
+    def _views_of(self, place):
+        """Return the numbers of the kept views with the table of a place."""
+        table = self._ground.place_table(place)
+        return [number for number, view in enumerate(self._ground.views) if view.nodes[0][2] == table]
+
+    def _open(self, number, name, place, needs):
+        """Add what a view shows for a row."""
+        question = ("in", number, name)
+        if question_key(self._ground, question) not in self._asked:
+            needs = needs + (question,)
+        view = self._ground.views[number]
+        for node in range(1, len(view.nodes)):
+            self._add_row(node_name(name, number, node), beyond(place, self._ground.path_to(number, node)), needs)
+        for at, (node, column) in enumerate(view.shown):
+            shown = (beyond(place, self._ground.path_to(number, node)), column)
+            if shown not in self._known:
+                self._known[shown] = True
+                self.shown.append((value_name(name, number, at), shown[0], column, needs))
+
+    def _add_row(self, name, place, needs):
+        if place not in self._known:
+            self._known[place] = True
+            self.names.append((name, place, needs))
+
+    def questions(self):
+        """Return the list of pairs (question, needs) of what may be asked and was not yet."""
+        ground = self._ground
+        ends = ends_of(ground)
+        found = [(("is", read_told_name(told)[1]), ()) for told in ground.named[ground.table]]
+        for name, place, needs in self.names:
+            found.extend([(("in", number, name), needs) for number in self._views_of(place)])
+            if place[1]:
+                told = ground.named[ground.place_table(place)]
+                found.extend([(("same", name, read_told_name(each)[1]), needs) for each in told])
+        for name, place, column, needs in self.shown:
+            found.extend([(("below", name, end), needs) for end in ends.get((ground.place_table(place), column), [])])
+        return [pair for pair in found if question_key(ground, pair[0]) not in self._asked]
+
+    def id_parts(self, node):
+        """Return the list of tuples (name, needs, fits) of the names that may stand for the id at a node; fits tells of
+        each sample whether it allows the name."""
+        table = self._ground.view.nodes[node][2]
+        found = [(name, needs, [find_id(sample.kept, name, sample.key) for sample in self._samples])
+                 for name, place, needs in self.names if self._ground.place_table(place) == table]
+        ids = [sample.row[0][node] for sample in self._samples]
+        return [(name, needs, [one == other for one, other in zip(told, ids)]) for name, needs, told in found]
+
+    def value_parts(self, at):
+        """Return the same for a value, with names and the integers of samples."""
+        found = [(name, needs, [find_value(sample.kept, name, sample.key) for sample in self._samples])
+                 for name, place, column, needs in self.shown]
+        values = [sample.row[1][at] for sample in self._samples]
+        found.extend([(value, (), [value for sample in self._samples]) for value in sorted(set(values))])
+        return [(part, needs, [one == other for one, other in zip(told, values)]) for part, needs, told in found]
+
+
+def ends_of(ground):
+    """Return the dict from (table, column) to the integers that ranges tell from the next lower ones, those of the view
+    first."""
+    found = cuts_of([ground.view])
+    for key, cuts in cuts_of(ground.views).items():
+        told = found.get(key, [])
+        found[key] = told + [cut for cut in cuts if cut not in told]
+    return found
+
+
+def question_key(ground, question):
+    """Return what tells a question from those that ask other things."""
+    if question[0] == "is":
+        return question
+    if question[0] == "in":
+        return "in", question[1], ground.place_of(question[2])
+    if question[0] == "same":
+        return "same", question[2], ground.place_of(question[1])
+    return "below", question[2], ground.value_place_of(question[1])
