@@ -12,6 +12,11 @@ def is_met(value, low, high, inside):
     return ((low is None or low <= value) and (high is None or value <= high)) == inside
 
 
+def meets_all(value, conditions):
+    """Return True if a value meets all conditions."""
+    return all([is_met(value, condition[0], condition[1], condition[2]) for condition in conditions])
+
+
 def least_left(conditions, start):
     """Return the least integer from start on that meets all conditions, or None."""
     value = start
@@ -55,6 +60,5 @@ def nearest_left(conditions, value, farthest):
         for end in condition[:2]:
             found.extend([] if end is None else [end - 1, end, end + 1])
     # What is left has its ends there.
-    fits = [each for each in found if -farthest <= each <= farthest
-            and all([is_met(each, condition[0], condition[1], condition[2]) for condition in conditions])]
-    return min(fits, key=lambda each: abs(each - value)) if fits else None
+    fits = [each for each in found if -farthest <= each <= farthest and meets_all(each, conditions)]
+    return min(fits, key=lambda one: abs(one - value)) if fits else None

@@ -7,7 +7,7 @@ of them is tried, until it is right, or there is another sample. If no leaf fits
 from onlyviews.answering import can_answer
 from onlyviews.claims import NEVER, NO_ROW, NONE, bare_fault, id_fault, make_fact, value_fault
 from onlyviews.ground import Ground
-from onlyviews.refuting import Roots
+from onlyviews.refuting import all_roots
 from onlyviews.rules import SIZES
 from onlyviews.samples import Reach, Sample, question_key
 
@@ -20,7 +20,7 @@ def make_rule(views, changes, view):
     if not can_answer(views, view, changes):
         return None
     ground = Ground(views, changes, view)
-    return make_tree(Branch(ground, changes, Roots(ground), {}, []))
+    return make_tree(Branch(ground, changes, all_roots(ground), {}, []))
 
 
 def make_tree(branch):

@@ -9,59 +9,60 @@ from onlyviews.situations import Situation
 class Roots:
     """The cases of a root, in order: for each its situation by the facts so far, or a tree that refutes these."""
 
-    def __init__(self, ground):
+    def __init__(self, ground, many, cases, trees):
+        """Take the number of facts, and for each case its situation, and the tree that refutes it or None."""
         self.ground = ground
-        self._many = 0
-        self._cases = [Situation(ground, name, True) for name in ground.named[ground.table]]
-        self._cases.extend([Situation(ground, ROOT, True), Situation(ground, ROOT, False)])
-        self._trees = [None for case in self._cases]
+        self._many = many
+        self._cases = cases
+        self._trees = trees
 
     def extended(self, fact):
         """Return these cases with one more fact."""
-        other = Roots(self.ground)
-        other._many = self._many + 1
-        other._trees = list(self._trees)
-        for at, case in enumerate(self._cases):
-            if self._trees[at] is None:
-                grown = case.fork()
-                closing = grown.add_fact(self._many, fact)
-                other._cases[at] = grown
-                other._trees[at] = None if closing is None else closing[0]
-        return other
+        cases, trees = [], []
+        for case, tree in zip(self._cases, self._trees):
+            grown = case.fork()
+            closing = grown.add_fact(self._many, fact) if tree is None else (tree, 0)
+            cases.append(grown)
+            trees.append(None if closing is None else closing[0])
+        return Roots(self.ground, self._many + 1, cases, trees)
 
     def narrowed(self):
         """Return these cases, all of which are refuted that can be by facts alone."""
-        other = Roots(self.ground)
-        other._many = self._many
-        other._cases = list(self._cases)
-        other._trees = list(self._trees)
-        for at, case in enumerate(self._cases):
-            if self._trees[at] is None:
-                closing, found = refuted(case, 0)
-                other._trees[at] = None if closing is None else closing[0]
-        return other
+        trees = []
+        for case, tree in zip(self._cases, self._trees):
+            closing = refuted(case, 0)[0] if tree is None else (tree, 0)
+            trees.append(None if closing is None else closing[0])
+        return Roots(self.ground, self._many, self._cases, trees)
 
     def search(self, fault):
         """Return (refutation, None), or (None, situation) with a situation in which a fault is."""
-        trees = list(self._trees)
-        for at, case in enumerate(self._cases):
-            if trees[at] is None:
+        trees = []
+        for case, tree in zip(self._cases, self._trees):
+            closing, found = (tree, 0), None
+            if tree is None:
                 grown = case.fork()
-                closing, found = grown.add_fault(fault), None
+                closing = grown.add_fault(fault)
                 if closing is None:
                     closing, found = refuted(grown, 0)
-                if closing is None:
-                    return None, found
-                trees[at] = closing[0]
-        # A tree that refutes facts alone stands in several refutations.
-        return ("root", [copied(tree) for tree in trees]), None
+            if closing is None:
+                return None, found
+            # A tree that refutes facts alone stands in several refutations.
+            trees.append(copied(closing[0]))
+        return ("root", trees), None
+
+
+def all_roots(ground):
+    """Return the cases of a root without facts."""
+    cases = [Situation(ground, name, True) for name in ground.named[ground.table]]
+    cases.extend([Situation(ground, ROOT, True), Situation(ground, ROOT, False)])
+    return Roots(ground, 0, cases, [None for case in cases])
 
 
 def refute_rule(ground, rule):
     """Return (reasons, None), or (None, (situation, fault)) with a fault and a situation in which it is."""
     found = []
     # The trees to look at, the last one first, with the cases of the root there.
-    left = [(rule, Roots(ground))]
+    left = [(rule, all_roots(ground))]
     while left:
         tree, roots = left.pop()
         if tree[0] in SIZES:
@@ -99,7 +100,7 @@ def refuted(situation, depth):
         return None, situation
     bit = 1 << depth
     trees = [None for case in split.cases]
-    used = split.used
+    used = 0
     for at in split.order():
         grown = situation.fork()
         closing = split.enter(grown, at, bit)
@@ -112,6 +113,7 @@ def refuted(situation, depth):
             return closing, None
         trees[at] = closing[0]
         used |= closing[1]
+    # What rests on this split rests also on those that tell its row: places were followed through these.
     return (split.head + (trees,), used ^ bit), None
 
 
@@ -123,7 +125,6 @@ class Leading:
         own = f"{name}.{reference}"
         self._from = (name, reference)
         self.cases = ground.steady[ground.table_of(own)] + [own]
-        self.used = situation.needs.get(name, 0)
         self.head = ("at", name, reference)
 
     def order(self):
@@ -140,7 +141,7 @@ class Choosing:
 
     def __init__(self, choice):
         self._choice = choice
-        self._fact_number, self.cases, self.used = choice
+        self._fact_number, self.cases = choice
         self.head = ("fault",) if self._fact_number is None else ("fact", self._fact_number)
 
     def order(self):

@@ -27,8 +27,8 @@ class Sample:
 class Reach:
     """The names that may stand behind some answers, or behind questions that all of some samples answer with yes.
 
-    names has tuples (name, place, needs) with one name for each place, shown tuples (name, place, column, needs); needs
-    are the questions that must be asked ahead.
+    names has tuples (name, place, needs) with one name for each place, told_values tuples (name, place, column, needs);
+    needs are the questions that must be asked ahead.
     """
 
     def __init__(self, ground, asked, samples):
@@ -36,7 +36,7 @@ class Reach:
         self._asked = asked
         self._samples = samples
         self.names = []
-        self.shown = []
+        self.told_values = []
         self._known = {}
         # What is asked already comes first, so that places have names without needs where there are some.
         for name in [ROOT] + list(ground.told_keys):
@@ -78,7 +78,7 @@ class Reach:
             shown = (beyond(place, self._ground.path_to(number, node)), column)
             if shown not in self._known:
                 self._known[shown] = True
-                self.shown.append((value_name(name, number, at), shown[0], column, needs))
+                self.told_values.append((value_name(name, number, at), shown[0], column, needs))
 
     def _add_row(self, name, place, needs):
         if place not in self._known:
@@ -95,7 +95,7 @@ class Reach:
             if place[1]:
                 told = ground.named[ground.place_table(place)]
                 found.extend([(("same", name, read_told_name(each)[1]), needs) for each in told])
-        for name, place, column, needs in self.shown:
+        for name, place, column, needs in self.told_values:
             found.extend([(("below", name, end), needs) for end in ends.get((ground.place_table(place), column), [])])
         return [pair for pair in found if question_key(ground, pair[0]) not in self._asked]
 
@@ -111,7 +111,7 @@ class Reach:
     def value_parts(self, at):
         """Return the same for a value, with names and the integers of samples."""
         found = [(name, needs, [find_value(sample.kept, name, sample.key) for sample in self._samples])
-                 for name, place, column, needs in self.shown]
+                 for name, place, column, needs in self.told_values]
         values = [sample.row[1][at] for sample in self._samples]
         found.extend([(value, (), [value for sample in self._samples]) for value in sorted(set(values))])
         return [(part, needs, [one == other for one, other in zip(told, values)]) for part, needs, told in found]

@@ -14,14 +14,15 @@ ROW = "row"
 NUMBER = "number"
 SAME_ID = "same id"
 NEED = "need"
+FAULT_FALSE = ("false", None)
 
 
 class Situation:
     """The cases that were told so far, and what facts and a fault tell in them.
 
     root is the name of the row that t is; is_ahead and is_behind say whether it is there. targets tells for (name,
-    reference) the name of the row to which this leads and the bit of the decision, needs on which decisions a name
-    rests. bounds has for (name, column) the conditions of the value, with the decisions on which each rests.
+    reference) the name of the row to which this leads, and the bit of the decision. bounds has for (name, column) the
+    conditions of the value, with the decisions on which each rests.
     """
 
     def __init__(self, ground, root, is_there):
@@ -33,11 +34,10 @@ class Situation:
             self.is_ahead = ground.parts[AHEAD][root] is not None
             self.is_behind = ground.parts[BEHIND][root] is not None
         self.targets = {}
-        self.needs = {}
         self.bounds = {}
         # By (name, reference), lists of pairs (place, thing) that wait until this reference is told.
         self.pending = {}
-        # Tuples (number of the fact or None, options, used): one of the options holds.
+        # Pairs (number of the fact or None, options): one of the options holds.
         self.choices = []
         # The fault that two values are unlike, where it is this one.
         self.unlike = None
@@ -46,7 +46,6 @@ class Situation:
         """Return a situation in which the same was told."""
         other = Situation(self.ground, self.root, self.is_ahead)
         other.targets = {key: self.targets[key] for key in self.targets}
-        other.needs = {key: self.needs[key] for key in self.needs}
         other.bounds = {key: self.bounds[key] for key in self.bounds}
         other.pending = {key: self.pending[key] for key in self.pending}
         other.choices = list(self.choices)
@@ -90,12 +89,12 @@ class Situation:
     def add_fault(self, fault):
         """Add the fault; return a closing if it cannot be, or None."""
         if fault.has_row() and not self.is_behind:
-            return ("false", None), 0
+            return FAULT_FALSE, 0
         closings = [self.settle(condition[0], (NUMBER, None, condition, 0)) for condition in fault.conditions]
         if fault.word == NO_ROW and self.is_behind and not fault.options:
-            return ("false", None), 0
+            return FAULT_FALSE, 0
         if fault.word == OTHER_INTEGER or fault.word == NO_ROW and self.is_behind:
-            self._choose_among(None, fault.options, 0)
+            self._choose_among(None, fault.options)
         elif fault.word == OTHER_ID:
             closings.append(self.settle(fault.place, (SAME_ID, fault)))
         elif fault.word == OTHER_VALUE:
@@ -105,9 +104,9 @@ class Situation:
             closings.append(self.settle_unlike())
         return least_closing(closings)
 
-    def _choose_among(self, number, options, used):
+    def _choose_among(self, number, options):
         """Let one of some options of a fact, or of the fault for None, hold."""
-        self.choices.append((number, options, used))
+        self.choices.append((number, options))
         for option in options:
             self.settle(option[0], (NEED,))
 
@@ -118,8 +117,6 @@ class Situation:
     def lead(self, name, reference, target, bit):
         """Let a row lead to another one by a decision; return a closing if this cannot be, or None."""
         self.targets[name, reference] = (target, bit)
-        if target not in self.ground.told_keys:
-            self.needs[target] = self.needs.get(name, 0) | bit
         freed = self.pending.pop((name, reference))
         closings = [self.settle(place, thing) for place, thing in freed]
         closings.append(self.settle_unlike())
@@ -154,7 +151,7 @@ class Situation:
             return None
         if not fact.options:
             return closing
-        self._choose_among(number, fact.options, used)
+        self._choose_among(number, fact.options)
         return None
 
     def _settle_number(self, name, used, number, condition):
@@ -181,7 +178,7 @@ class Situation:
                 return None
         if ends[0][0] is None or ends[0][0] != ends[1][0]:
             return None
-        return ("false", None), ends[0][2] | ends[1][2]
+        return FAULT_FALSE, ends[0][2] | ends[1][2]
 
     def settle_unlike(self):
         """Return a closing if the fault is that two values are unlike, and they cannot be, otherwise None."""
@@ -234,9 +231,13 @@ class Situation:
 
 
 def least_closing(closings):
-    """Return the closing that rests on the least decisions, the last ones above all, or None if there is none."""
+    """Return the closing that rests on the least decisions, the last ones above all, or None if there is none.
+
+    One that says that the fault cannot be comes first: where it cannot be by rows, ranges that hold because it is need
+    not be counted by who checks that no integer is left.
+    """
     found = [closing for closing in closings if closing is not None]
-    return min(found, key=lambda closing: closing[1]) if found else None
+    return min(found, key=lambda closing: (closing[0] != FAULT_FALSE, closing[1])) if found else None
 
 
 def without_idle(bounds):

@@ -23,8 +23,9 @@ def faults_of(leaf):
     return [("no row",), *[("id", node) for node in range(len(leaf[1]))], *[("value", at) for at in range(len(leaf[2]))]]
 
 
-def are_reasons_by_words(views, changes, view, rule, value):
-    """Return whether a value is reasons of a rule."""
+def are_reasons_by_words(views, changes, view, rule, value, counts=True):
+    """Return whether a value is reasons of a rule; counts says whether ranges of the view that hold because of the fault
+    count where this cannot be by rows."""
     leaves = list(facts_of(rule))
     if type(value) is not list or len(value) != len(leaves):
         return False
@@ -32,15 +33,15 @@ def are_reasons_by_words(views, changes, view, rule, value):
         if type(trees) is not list or len(trees) != len(faults_of(leaf)):
             return False
         for fault, tree in zip(faults_of(leaf), trees):
-            if not Proof(views, changes, view, facts, leaf, fault).is_refutation(tree):
+            if not Proof(views, changes, view, facts, leaf, fault, counts).is_refutation(tree):
                 return False
     return True
 
 
 class Proof:
 
-    def __init__(self, views, changes, view, facts, leaf, fault):
-        self.views, self.changes, self.view = views, changes, view
+    def __init__(self, views, changes, view, facts, leaf, fault, counts):
+        self.views, self.changes, self.view, self.counts = views, changes, view, counts
         self.schema = view.schema
         self.facts, self.leaf, self.fault = facts, leaf, fault
         self.old, self.new, self.deleted, self.ids = {}, {}, set(), set()
@@ -153,7 +154,7 @@ class Proof:
         found = []
         ranges = self.held(cases, self.view, cases["t"], self.new)
         if self.fault[0] in ("none", "id", "value") and self.t_is_behind(cases):
-            found += ranges
+            found += ranges if self.counts or not self.is_fault_false(cases) else []
         if cases["side"] is not None:
             if self.fault[0] == "no row":
                 found.append(ranges[cases["side"]][:5] + (False,))

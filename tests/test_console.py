@@ -110,7 +110,8 @@ class FormsTest(ConsoleCase):
                        "kind big", "kind big insert", "kind big insert shop open", "kind big set shop", "kind big set",
                        "kind big set shop open place", "kind big delete shop open", "kind big make shop",
                        "kind insert shop", "kind big Insert shop", "delete", "delete shop", "delete shop 5 1",
-                       "delete shop 5 1 3", "insert", "insert shop", "set", "set shop", "drop shop 5", "big")
+                       "delete shop 5 1 3", "kinds big insert shop", "show big insert shop", "kinds big set shop open",
+                       "contents big set shop open", "kind big set insert shop", "insert", "insert shop", "set", "set shop", "drop shop 5", "big")
 
     def test_tables_and_columns(self):
         console = filled()

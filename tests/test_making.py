@@ -10,7 +10,7 @@ from onlyviews.bases import Base
 from onlyviews.deciding import can_follow
 from onlyviews.following import followed
 from onlyviews.judging import is_right
-from onlyviews.making import make_rule
+from onlyviews.making import make_rule, unlike_pairs
 from onlyviews.reasons import are_reasons, reasons
 from onlyviews.rules import is_rule, parse_rule, rule_text, told_contents
 from onlyviews.schemas import Schema
@@ -182,6 +182,25 @@ class DrawnTest(MakingCase):
                 self.assertIs(are_reasons(views, changes, view, rule, told), True)
         self.assertGreater(max(questions), 8)
         self.assertGreater(len(questions), 100)
+
+    def test_ends_of_kept_views(self):
+        # Of shops in neither of two views, those of at least 5 have q below 3, and others not; no end of the view tells it.
+        schema = Schema.parse("table a\n  plain p\n  plain q")
+        views = [View.parse(schema, f"view a\n  {rows}") for rows in (
+            "range p 5 -\n  range q 3 -", "range p - 4\n  range q - 2", "shown p")]
+        view = View.parse(schema, "view a\n  range q 3 -")
+        rule = self.makes(views, [], view)
+        base = Base(schema, [("a", (10 * p + q, p, q)) for p in range(3, 8) for q in range(1, 6)])
+        self.assertEqual(told_contents(views, [contents(each, base) for each in views], [], view, rule), contents(view, base))
+        self.assertIsNone(self.makes(views[:2], [], view))
+
+    def test_pairs_of_samples(self):
+        fits = [("a", (), [True, False, True]), ("b", (), [False, True, False])]
+        self.assertEqual(unlike_pairs([fits], 3), [(0, 1), (2, 1)])
+        self.assertEqual(unlike_pairs([fits + [("c", (), [True] * 3)]], 3), [])
+        # Where nothing fits, all samples may be unlike one another.
+        for none in ([], [("a", (), [False] * 3)]):
+            self.assertEqual(sorted(unlike_pairs([none], 3)), [(0, 1), (0, 2), (1, 2)])
 
     def test_equal_samples_by_chance(self):
         # Here parts of leaves fit samples by chance, but not all of them.

@@ -53,6 +53,8 @@ class ReasonsCase(unittest.TestCase):
         told = reasons(views, changes, view, rule)
         self.assertIs(told is not None, is_right(views, changes, view, rule))
         self.assertIs(self.judges(views, changes, view, rule, told), told is not None)
+        # They hold for whoever does not count ranges where the fault cannot be by rows.
+        self.assertIs(are_reasons_by_words(views, changes, view, rule, told, False), told is not None)
         return told
 
     def case(self, views, changes, view, rule, leaf, fault):
@@ -371,7 +373,7 @@ class FaultTest(ReasonsCase):
         check(False, ("fault", [f()]), f(0), f(0))
         check(False, ("fault", [("empty", "t", "size"), f()]), f(0), f(0))
         check(False, ("equal", 7), f(0), f(0))
-        check(True, ("fault", [f(), f()]), ("fault", [f(0), f(0)]), f(0))
+        check(True, ("fault", [f(), f()]), ("fault", [f(0), f(0)]), ("fault", [f(0), f()]))
 
 
 class FalseTest(ReasonsCase):
@@ -662,6 +664,41 @@ class DrawnTest(ReasonsCase):
         self.assertEqual(set(words), {"root", "at", "fact", "fault", "false", "empty", "equal"})
         self.assertGreater(told[True], 30)
         self.assertGreater(told[False], 2000)
+
+    def test_rules_that_are_not_right(self):
+        # No value is reasons of them, neither those of a right rule of the same form nor any that are near these.
+        many = 0
+        for seed in range(900):
+            chance = random.Random(seed)
+            _, views, view, changes = any_rule_case(chance)
+            rule = make_rule(views, changes, view)
+            other = None if rule is None else spoilt(chance, views, changes, view, rule)
+            if other is None or is_right(views, changes, view, other):
+                continue
+            right = reasons(views, changes, view, rule)
+            leaves = list(facts_of(other))
+            for _ in range(10):
+                value = [list(trees) for trees in right]
+                for trees, (facts, leaf) in zip(value, leaves):
+                    for fault, tree in enumerate(trees[:len(faults_of(leaf))]):
+                        if chance.random() < 0.3:
+                            trees[fault] = spoilt_tree(chance, tree, ["t", *told_names(view.schema, changes)], ["p", "q", "r"], len(facts))
+                many += 1
+                self.assertFalse(self.judges(views, changes, view, other, value))
+        self.assertGreater(many, 1000)
+
+    def test_ids_and_values_of_other_rows(self):
+        changes = [("set", "shop", (5, 1, 3), (5, 1, 4))]
+        ids = parse_rule("is 5\n  row t region:{} |\nelse\n  in 0 t\n    row t t/0.1 |\n  else\n    none".format(4))
+        right = self.gives([PLACES], changes, PLACES, ids)
+        other = parse_rule("is 5\n  row t region:{} |\nelse\n  in 0 t\n    row t t/0.1 |\n  else\n    none".format(3))
+        self.assertFalse(self.judges([PLACES], changes, PLACES, other, right))
+        self.assertIsNone(self.gives([PLACES], changes, PLACES, other))
+        told = [list(trees) for trees in right]
+        for tree in (f(), f(0), ("equal", None), ("fault", [f(), f()])):
+            told[0][2] = ("root", [tree, f(0), f(0)])
+            self.assertIs(self.judges([PLACES], changes, PLACES, ids, told), tree == f())
+            self.assertFalse(self.judges([PLACES], changes, PLACES, other, told))
 
     def test_one_case_less_or_more_in_each_place(self):
         many = 0
