@@ -52,6 +52,15 @@ class Ground:
                 self._tables[name] = target_of(self.schema, self.table_of(parent), reference)
         return self._tables[name]
 
+    def is_changed(self, name):
+        """Return True if the batch changes the row with a name that a change has."""
+        return self.parts[AHEAD][name] != self.parts[BEHIND][name]
+
+    def led_names(self, name):
+        """Return the names of the rows to which a row that a change names leads, ahead of the batch or behind it."""
+        parts = [rows[name] for rows in self.parts if rows.get(name) is not None]
+        return [part for row in parts for part in row.values() if isinstance(part, str)]
+
     def path_to(self, number, node):
         """Return the path from the root to a node of a kept view, or of the view for None."""
         return self._paths[-1 if number is None else number][node]

@@ -7,9 +7,10 @@ of them is tried, until it is right, or there is another sample. If no leaf fits
 from onlyviews.answering import can_answer
 from onlyviews.claims import NEVER, NO_ROW, NONE, bare_fault, id_fault, make_fact, value_fault
 from onlyviews.ground import Ground
+from onlyviews.reach import Reach, question_key
 from onlyviews.refuting import all_roots
 from onlyviews.rules import SIZES
-from onlyviews.samples import Reach, Sample, question_key
+from onlyviews.samples import Sample
 
 NEVER_LEAF = ("never",)
 NONE_LEAF = ("none",)
@@ -116,15 +117,39 @@ class Branch:
 
     def _best_question(self, reach, pairs):
         """Return the question that tells most pairs of samples apart, or one that must be asked ahead of it."""
+        questions = reach.questions()
+        # What rows show to which t does not lead may tell samples apart by chance.
+        near = [pair for pair in questions if reach.is_near(pair[0])]
+        best = self._best_of(near, pairs) or self._same_row(near) or self._best_of(questions, pairs)
+        # Where no question tells samples apart, kept views do not either.
+        assert best is not None
+        return first_asked(reach, best)
+
+    def _same_row(self, questions):
+        """Return that of some pairs (question, needs) by which a row is the same told one in all samples, or None."""
+        for question, needs in questions:
+            if question[0] in ("is", "same") and all([sample.answer(question) for sample in self._samples]):
+                return question, needs
+        return None
+
+    def _best_of(self, questions, pairs):
+        """Return that of some pairs (question, needs) that tells most pairs of samples apart, or None."""
         best, most = None, 0
-        for question, needs in reach.questions():
+        for question, needs in questions:
             answers = [sample.answer(question) for sample in self._samples]
             many = len([first for first, second in pairs if answers[first] != answers[second]])
             if many > most:
-                best, most = (needs + (question,))[0], many
-        # Where no question tells samples apart, kept views do not either.
-        assert best is not None
+                best, most = (question, needs), many
         return best
+
+
+def first_asked(reach, pair):
+    """Return the question that is to be asked ahead of one with its needs, or this one."""
+    question, needs = pair
+    # What views show of a row that the batch changes is not what is there behind it. If this were asked later, the same
+    # questions would have to follow both answers.
+    identities = reach.identities(question) if question[0] in ("in", "below") else []
+    return first_asked(reach, identities[0]) if identities else (needs + (question,))[0]
 
 
 def pairs_of(marks):

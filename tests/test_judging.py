@@ -308,7 +308,7 @@ class BoundsTest(JudgingCase):
     def test_five_hundred_questions(self):
         changes = [("set", "region", (3, 1), (3, 2)), ("insert", "shop", (5, 1, 3))]
         kept = [PLACES, REGIONS]
-        rule = make_rule(kept, changes, SMALL)
+        rule = parse_rule("is 5\n  row t region:3 |\nelse\n" + "\n".join("  " + row for row in TEXT.split("\n")))
         # Questions that tell nothing of the view, with the same rule behind each answer.
         for question in [("in", 1, "region:3"), ("is", 5), ("in", 0, "shop:5"), ("in", 0, "t"), ("in", 1, "region:3"), ("is", 5),
                          ("in", 0, "shop:5")]:

@@ -202,6 +202,26 @@ class DrawnTest(MakingCase):
         for none in ([], [("a", (), [False] * 3)]):
             self.assertEqual(sorted(unlike_pairs([none], 3)), [(0, 1), (0, 2), (1, 2)])
 
+    def test_rules_stay_small(self):
+        # For rows that the batch changes, and those that lead to them, a rule asks which they are ahead of all else.
+        schema = WIDE[1]
+        kept = [View.parse(schema, text) for text in (
+            "view c\n  shown p\n  shown q\n  follow r\n  follow s", "view b\n  shown p\n  shown q\n  follow r",
+            "view a\n  shown p\n  shown q")]
+        views = [View.parse(schema, "view c\n  shown p\n" + text) for text in (
+            "  range p 0 10\n  follow r\n    shown p\n    range q 5 20\n    follow r\n      shown p\n      range p 1 8\n"
+            "  follow s\n    shown q\n    range p 3 9",
+            "  follow r\n    shown p\n    follow r\n      shown p\n      range p 1 8\n      range q 1 8\n  follow s\n"
+            "    shown q\n    range p 3 9\n    range q 2 7")]
+        first, second = ("set", "b", (1, 4, 4, 1), (1, 5, 6, 2)), ("set", "b", (2, 4, 4, 1), (2, 5, 9, 3))
+        for changes in ([first, second], [("set", "a", (1, 4, 4), (1, 5, 6)), ("set", "a", (2, 4, 4), (2, 5, 9))],
+                        [("set", "a", (1, 4, 4), (1, 5, 6)), second], [("set", "c", (1, 4, 4, 1, 2), (1, 5, 6, 2, 3)), second],
+                        [("insert", "c", (1, 5, 6, 2, 3)), ("set", "c", (2, 4, 4, 1, 2), (2, 5, 6, 2, 3))]):
+            for view in views:
+                rule = self.makes(kept, changes, view)
+                self.assertLess(len(trees_of(rule)) // 2, 200)
+                self.assertIs(are_reasons(kept, changes, view, rule, reasons(kept, changes, view, rule)), True)
+
     def test_equal_samples_by_chance(self):
         # Here parts of leaves fit samples by chance, but not all of them.
         schema = Schema.parse("table a\n  plain p\n  plain q\ntable b\n  plain p\n  plain q\n  ref r a\n  ref s a")
