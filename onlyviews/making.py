@@ -51,7 +51,7 @@ class Branch:
         self._ground = ground
         self._changes = changes
         self._roots = roots
-        # The answers that lead here, by the keys of the questions.
+        # Pairs of the answers that lead here and their questions, by the keys of these.
         self._asked = asked
         self._samples = samples
         self._proved = {}
@@ -59,7 +59,7 @@ class Branch:
     def answered(self, question, answer):
         """Return the branch behind the answer to a question."""
         asked = {key: self._asked[key] for key in self._asked}
-        asked[question_key(self._ground, question)] = answer
+        asked[question_key(self._ground, question)] = (answer, question)
         samples = [sample for sample in self._samples if sample.answer(question) == answer]
         roots = self._roots.extended(make_fact(self._ground, question, answer))
         return Branch(self._ground, self._changes, roots, asked, samples)

@@ -14,6 +14,7 @@ class Reach:
     """
 
     def __init__(self, ground, asked, samples):
+        """Take pairs (answer, question) by the keys of the questions that were asked, and samples that lead there."""
         self._ground = ground
         self._asked = asked
         self._samples = samples
@@ -22,40 +23,37 @@ class Reach:
         # The names and needs of places, and which values are told.
         self._at = {}
         self._known = {}
-        # What is asked already comes first, so that places have names without needs where there are some.
         for name in [ROOT] + list(ground.told_keys):
             self._add_row(name, (name, (), AHEAD), ())
-        self._open_all(True)
-        self._open_all(False)
+        # What was asked comes first, by the names with which it was: places have names without needs where they may.
+        for answer, question in asked.values():
+            if answer and question[0] == "in":
+                self._open(question, ())
+        self._open_all()
         self._near = self._find_near()
 
-    def _is_open(self, question, is_asked):
-        """Return True if the answer to a question in was yes, or, unless it must be asked, if all samples say so."""
-        key = question_key(self._ground, question)
-        if is_asked or key in self._asked:
-            return self._asked.get(key, False)
-        return all([sample.answer(question) for sample in self._samples])
-
-    def _open_all(self, is_asked):
-        """Add what views show for all rows, also for those that are added."""
+    def _open_all(self):
+        """Add what views show for all rows, also for those that are added, where all samples answer yes."""
         at = 0
         while at < len(self.names):
             name, place, needs = self.names[at]
-            for number in self._views_of(place):
-                if self._is_open(("in", number, name), is_asked):
-                    self._open(number, name, place, needs)
+            for question in [("in", number, name) for number in self._views_of(place)]:
+                if question_key(self._ground, question) not in self._asked and self._is_sure(question):
+                    self._open(question, needs + (question,))
             at += 1
+
+    def _is_sure(self, question):
+        return all([sample.answer(question) for sample in self._samples])
 
     def _views_of(self, place):
         """Return the numbers of the kept views with the table of a place."""
         table = self._ground.place_table(place)
         return [number for number, view in enumerate(self._ground.views) if view.nodes[0][2] == table]
 
-    def _open(self, number, name, place, needs):
-        """Add what a view shows for a row."""
-        question = ("in", number, name)
-        if question_key(self._ground, question) not in self._asked:
-            needs = needs + (question,)
+    def _open(self, question, needs):
+        """Add what may be named by the answer yes to a question in."""
+        word, number, name = question
+        place = self._ground.place_of(name)
         view = self._ground.views[number]
         for node in range(1, len(view.nodes)):
             self._add_row(node_name(name, number, node), beyond(place, self._ground.path_to(number, node)), needs)
@@ -94,11 +92,12 @@ class Reach:
     def _find_near(self):
         """Return a dict with the names of t, and of the rows to which it is known to lead by some answer yes."""
         found = [ROOT]
-        for key, answer in self._asked.items():
-            if answer and key[0] == "is":
-                found.append(told_name((self._ground.table, key[1])))
-            elif answer and key[0] == "same":
-                found.append(told_name((self._ground.place_table(key[2]), key[1])))
+        for answer, question in self._asked.values():
+            if answer and question[0] == "is":
+                found.append(told_name((self._ground.table, question[1])))
+            elif answer and question[0] == "same":
+                table = self._ground.place_table(self._ground.place_of(question[1]))
+                found.append(told_name((table, question[2])))
         at = 0
         while at < len(found):
             found.extend([name for name in self._ground.led_names(found[at]) if name not in found])
@@ -113,9 +112,10 @@ class Reach:
         for many in range(len(path) + 1):
             place = (name, path[:many], moment)
             told = self._identities_at(place)
-            if True in [self._asked.get(question_key(self._ground, pair[0])) for pair in told]:
+            keys = [question_key(self._ground, pair[0]) for pair in told]
+            if any([key in self._asked and self._asked[key][0] for key in keys]):
                 return []
-            found.extend([pair for pair in told if question_key(self._ground, pair[0]) not in self._asked])
+            found.extend([pair for key, pair in zip(keys, told) if key not in self._asked])
         return found
 
     def _place_asked(self, question):

@@ -1,6 +1,7 @@
 """Points 12, 16, 18 and 20: made rules."""
 
 import copy
+import itertools
 import random
 import unittest
 
@@ -221,6 +222,22 @@ class DrawnTest(MakingCase):
                 rule = self.makes(kept, changes, view)
                 self.assertLess(len(trees_of(rule)) // 2, 200)
                 self.assertIs(are_reasons(kept, changes, view, rule, reasons(kept, changes, view, rule)), True)
+
+    def test_rows_with_several_names(self):
+        # A view names a row first, and one that is asked later names it, too: what it shows has the name that was asked.
+        views = [View.parse(WIDE[1], text) for text in (
+            "view c\n  shown p\n  follow r\n    shown q\n    follow r",
+            "view c\n  shown q\n  follow r\n    follow r\n      shown p\n      shown q", "view b\n  shown p")]
+        view = View.parse(WIDE[1], "view c\n  shown p\n  range q - -1\n  follow r\n    shown p\n    range p -1 -\n    follow r")
+        self.assertIsNotNone(self.makes(views, [], view))
+        views = [View.parse(WIDE[2], text) for text in (
+            "view c\n  shown p\n  range p 1 -\n  range q 0 -\n  follow r\n    range q -1 1",
+            "view c\n  shown p\n  follow r\n    range p -1 -\n    follow r\n      shown q",
+            "view b\n  shown p\n  shown q\n  follow r\n    shown q")]
+        view = View.parse(WIDE[2], "view c\n  follow r\n    shown p\n    shown q\n    range p -1 -")
+        changes = [("set", "a", (1, 3, -1), (1, 3, -1)), ("set", "b", (0, 1, -1, 2), (0, 2, -1, 2))]
+        for kept in itertools.permutations(views):
+            self.assertIsNotNone(self.makes(list(kept), changes, view))
 
     def test_equal_samples_by_chance(self):
         # Here parts of leaves fit samples by chance, but not all of them.
