@@ -17,6 +17,7 @@ from onlyviews.rules import is_rule, parse_rule, rule_text, told_contents
 from onlyviews.schemas import Schema
 from onlyviews.views import View, contents
 from oracle import all_tables, made, shown_by, tables_of
+from proofs import are_reasons_by_words
 from rulemakers import any_rule_case, is_wrong_at, trees_of
 
 SMALL = View.parse(SHOPS, "view shop\n  follow place\n    range size - 10")
@@ -238,6 +239,23 @@ class DrawnTest(MakingCase):
         changes = [("set", "a", (1, 3, -1), (1, 3, -1)), ("set", "b", (0, 1, -1, 2), (0, 2, -1, 2))]
         for kept in itertools.permutations(views):
             self.assertIsNotNone(self.makes(list(kept), changes, view))
+
+    def test_words_of_rules_as_names(self):
+        schemas = [Schema.parse("table row\n  plain in\n  plain t\ntable none\n  plain t\n  ref below row\ntable t\n  plain is\n"
+                                "  ref same none\n  ref t row"), Schema.parse("table never\n  plain t\ntable t\n  plain t\n  ref row never")]
+        many = 0
+        for seed in range(150):
+            chance = random.Random(seed)
+            base, views, view, changes = any_rule_case(chance, 3, schemas)
+            rule = self.makes(views, changes, view)
+            if rule is not None:
+                many += 1
+                told = told_contents(views, [contents(each, base) for each in views], changes, view, rule)
+                self.assertEqual(told, shown_by(view, made(base.schema, tables_of(base), changes)))
+                shown = reasons(views, changes, view, rule)
+                self.assertIs(are_reasons(views, changes, view, rule, shown), True)
+                self.assertIs(are_reasons_by_words(views, changes, view, rule, shown), True)
+        self.assertGreater(many, 40)
 
     def test_equal_samples_by_chance(self):
         # Here parts of leaves fit samples by chance, but not all of them.
